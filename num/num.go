@@ -5,6 +5,7 @@ import (
 	"math/bits"
 
 	"zermelo/api"
+	"zermelo/guard"
 )
 
 // Check reports whether an integer is formed.
@@ -44,7 +45,7 @@ func Mul(a, b api.Int) (api.Int, api.Errno) { return ring(a, b, product) }
 
 // ring carries out an operation that all formed integers have, and whose result may have too many limbs.
 func ring(a, b api.Int, operation func(a, b api.Int) api.Int) (result api.Int, e api.Errno) {
-	e = attempt(func() {
+	e = guard.Attempt(func() {
 		demandFormed(a, b)
 		result = fitting(operation(a, b))
 	})
@@ -53,9 +54,9 @@ func ring(a, b api.Int, operation func(a, b api.Int) api.Int) (result api.Int, e
 
 // Div returns the quotient, rounded downward, and the rest.
 func Div(a, b api.Int) (q, r api.Int, e api.Errno) {
-	e = attempt(func() {
+	e = guard.Attempt(func() {
 		demandFormed(a, b)
-		demand(len(b.Abs) > 0, api.ErrZero)
+		guard.Demand(len(b.Abs) > 0, api.ErrZero)
 		q, r = floored(a, b)
 	})
 	return q, r, e
@@ -63,11 +64,11 @@ func Div(a, b api.Int) (q, r api.Int, e api.Errno) {
 
 // Pow returns a to the power of n.
 func Pow(a api.Int, n int) (result api.Int, e api.Errno) {
-	e = attempt(func() {
+	e = guard.Attempt(func() {
 		demandFormed(a)
-		demand(n >= 0 && n <= api.MaxPower, api.ErrArg)
+		guard.Demand(n >= 0 && n <= api.MaxPower, api.ErrArg)
 		// The power has more bits than this: one that is far too large is not computed.
-		demand((bitLen(a.Abs)-1)*n < 32*api.MaxBig, api.ErrLimit)
+		guard.Demand((bitLen(a.Abs)-1)*n < 32*api.MaxBig, api.ErrLimit)
 		result = fitting(signed(a.Neg && n%2 == 1, power(a.Abs, n)))
 	})
 	return result, e
@@ -75,7 +76,7 @@ func Pow(a api.Int, n int) (result api.Int, e api.Errno) {
 
 // Gcd returns the greatest common divisor of two integers, and factors by which they give it.
 func Gcd(a, b api.Int) (g, x, y api.Int, e api.Errno) {
-	e = attempt(func() {
+	e = guard.Attempt(func() {
 		demandFormed(a, b)
 		g, x, y = divisor(a, b)
 	})
@@ -84,10 +85,10 @@ func Gcd(a, b api.Int) (g, x, y api.Int, e api.Errno) {
 
 // Root returns the greatest integer whose n-th power is not above a.
 func Root(a api.Int, n int) (result api.Int, e api.Errno) {
-	e = attempt(func() {
+	e = guard.Attempt(func() {
 		demandFormed(a)
-		demand(n >= 1 && n <= 100, api.ErrArg)
-		demand(!a.Neg || n%2 == 1, api.ErrNone)
+		guard.Demand(n >= 1 && n <= 100, api.ErrArg)
+		guard.Demand(!a.Neg || n%2 == 1, api.ErrNone)
 		result = floorRoot(a, n)
 	})
 	return result, e
@@ -112,9 +113,9 @@ func Of(n int) api.Int {
 
 // To returns an integer as an int.
 func To(a api.Int) (n int, e api.Errno) {
-	e = attempt(func() {
+	e = guard.Attempt(func() {
 		demandFormed(a)
-		demand(bitLen(a.Abs) <= 64, api.ErrLimit)
+		guard.Demand(bitLen(a.Abs) <= 64, api.ErrLimit)
 		n = word(a)
 	})
 	return n, e
@@ -128,17 +129,17 @@ func word(a api.Int) int {
 	}
 	switch {
 	case a.Neg:
-		demand(magnitude <= 1<<63, api.ErrLimit)
+		guard.Demand(magnitude <= 1<<63, api.ErrLimit)
 		return int(-magnitude)
 	default:
-		demand(magnitude < 1<<63, api.ErrLimit)
+		guard.Demand(magnitude < 1<<63, api.ErrLimit)
 		return int(magnitude)
 	}
 }
 
 // Text returns the digits of an integer to a base.
 func Text(a api.Int, base int) (s string, e api.Errno) {
-	e = attempt(func() {
+	e = guard.Attempt(func() {
 		demandFormed(a)
 		demandBase(base)
 		s = text(a, base)
@@ -148,50 +149,28 @@ func Text(a api.Int, base int) (s string, e api.Errno) {
 
 // Parse returns the integer with such digits.
 func Parse(s string, base int) (a api.Int, e api.Errno) {
-	e = attempt(func() {
+	e = guard.Attempt(func() {
 		demandBase(base)
 		a = parse(s, base)
 	})
 	return a, e
 }
 
-// attempt carries out work; what panics within ends it, and becomes the error.
-func attempt(work func()) (e api.Errno) {
-	defer func() {
-		switch reason := recover().(type) {
-		case nil:
-		case api.Errno:
-			e = reason
-		default:
-			e = api.ErrArg
-		}
-	}()
-	work()
-	return api.OK
-}
-
-// demand ends a call with an error, unless something holds.
-func demand(holds bool, e api.Errno) {
-	if !holds {
-		panic(e)
-	}
-}
-
 // demandFormed ends a call, unless all of its integers are formed.
 func demandFormed(l ...api.Int) {
 	for _, a := range l {
-		demand(Check(a) == api.OK, api.ErrArg)
+		guard.Demand(Check(a) == api.OK, api.ErrArg)
 	}
 }
 
 // demandBase ends a call, unless there are digits to a base.
 func demandBase(base int) {
-	demand(base >= 2 && base <= len(digits), api.ErrArg)
+	guard.Demand(base >= 2 && base <= len(digits), api.ErrArg)
 }
 
 // fitting returns an integer, or ends a call if it has too many limbs.
 func fitting(a api.Int) api.Int {
-	demand(len(a.Abs) <= api.MaxBig, api.ErrLimit)
+	guard.Demand(len(a.Abs) <= api.MaxBig, api.ErrLimit)
 	return a
 }
 

@@ -5,6 +5,7 @@ import (
 	"slices"
 
 	"zermelo/api"
+	"zermelo/guard"
 )
 
 // digits are the digits of all bases.
@@ -54,9 +55,9 @@ func parse(s string, base int) api.Int {
 	if neg {
 		s = s[1:]
 	}
-	demand(len(s) > 0, api.ErrForm)
+	guard.Demand(len(s) > 0, api.ErrForm)
 	for i := range len(s) {
-		demand(digitOf(s[i]) < base, api.ErrForm)
+		guard.Demand(digitOf(s[i]) < base, api.ErrForm)
 	}
 	for len(s) > 0 && s[0] == '0' {
 		s = s[1:]
@@ -65,7 +66,7 @@ func parse(s string, base int) api.Int {
 	for unit, value := range chunks(s, base) {
 		abs = timesPlus(abs, unit, value)
 		// What comes behind does not make it smaller: a text far too long is not read to its end.
-		demand(len(abs) <= api.MaxBig, api.ErrLimit)
+		guard.Demand(len(abs) <= api.MaxBig, api.ErrLimit)
 	}
 	return signed(neg, abs)
 }
