@@ -150,6 +150,19 @@ func TestIteratorsAreKept(t *testing.T) {
 	}
 }
 
+// G6: a sequence without elements may have room for some, which its results do not share.
+func TestRoomIsNotShared(t *testing.T) {
+	a := api.Val{Kind: api.VTup, L: make([]api.Val, 0, 3)}
+	_, rest, _ := setop.From(api.FrFirst, a, 0)
+	repeated, _ := setop.Bin(api.BiMul, a, integer(5))
+	sum, _ := setop.Bin(api.BiAdd, a, a)
+	for _, x := range []api.Val{rest, repeated, sum} {
+		if x.L = append(x.L, integer(1)); !same(a.L[:1][0], om) {
+			t.Errorf("what is put behind %s changes its operand", told(x))
+		}
+	}
+}
+
 // A choice takes any number.
 func TestChoices(t *testing.T) {
 	for _, pick := range []int{math.MinInt, math.MinInt + 1, -8, -7, -1, 0, 1, 6, 7, 8, 65535, math.MaxInt - 1, math.MaxInt} {
