@@ -14,8 +14,9 @@ const signs = ":= ** /= <= >= .. -> + - * / = < > # ( ) [ ] { } , ; : . | ? @"
 
 // keys returns the key words, to look them up.
 func keys() map[string]bool {
-	found := map[string]bool{}
-	for _, word := range strings.Fields(keyWords) {
+	words := strings.Fields(keyWords)
+	found := make(map[string]bool, len(words))
+	for _, word := range words {
 		found[word] = true
 	}
 	return found
