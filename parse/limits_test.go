@@ -190,6 +190,8 @@ func TestSources(t *testing.T) {
 		{long, 0, 0, api.ErrLimit},
 		{"!" + long, 0, 0, api.ErrLimit},
 		{long[:api.MaxSource], 0, 0, api.OK},
+		{"!" + long[:api.MaxSource-1], 1, 1, api.ErrByte},
+		{"!" + long[:api.MaxSource], 0, 0, api.ErrLimit},
 		{many + ";", 1, 12001, api.ErrLimit},
 		{many, 1, 1, api.ErrSyntax},
 		{"program p; x := \"a\n", 1, 17, api.ErrQuote},
@@ -308,5 +310,31 @@ func TestDeep(t *testing.T) {
 	}
 	if _, _, e := parse.Tokens(around("(", ")", 200001)); e != api.ErrLimit {
 		t.Error(e)
+	}
+}
+
+// Lists of tokens that are long, but not deep, are read to their end.
+func TestLong(t *testing.T) {
+	for _, c := range [][3]string{
+		{"program x ; x := x", "( x , x )", "; end ;"},
+		{"program x ;", "stop ;", "end ;"},
+		{"program x ; for x in x", ", [ x ] in x", "do end ; end ;"},
+	} {
+		var l []api.Token
+		for i, many := range []int{1, 210000, 1} {
+			var part []api.Token
+			for _, text := range split(c[i]) {
+				part = append(part, token(text))
+			}
+			for range many {
+				l = append(l, part...)
+			}
+		}
+		if _, at, e := parse.Tokens(l); at != 0 || e != api.ErrLimit {
+			t.Error(c, at, e)
+		}
+		if _, at, e := parse.Tokens(l[:len(l)-1]); at != len(l)-1 || e != api.ErrSyntax {
+			t.Error(c, at, e)
+		}
 	}
 }
