@@ -128,7 +128,7 @@ func TestUnits(t *testing.T) {
 	}
 }
 
-// P9.2: Format, case by case.
+// P9.2, P9.8: Format, case by case, and done twice.
 func TestFormat(t *testing.T) {
 	for _, x := range []struct {
 		src, want string
@@ -150,6 +150,12 @@ func TestFormat(t *testing.T) {
 		got, line, col, e := show.Format(x.src)
 		if got != x.want || line != x.line || col != x.col || e != x.e {
 			t.Errorf("%s\n%s, %d, %d, %d, want\n%s, %d, %d, %d", x.src, got, line, col, e, x.want, x.line, x.col, x.e)
+		}
+		if x.e != api.OK {
+			continue
+		}
+		if again, _, _, e := show.Format(got); again != got || e != api.OK {
+			t.Errorf("%s\n%s, %d", got, again, e)
 		}
 	}
 }
